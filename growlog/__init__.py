@@ -1,0 +1,1 @@
+"""A log that is only added to."""
