@@ -1,38 +1,19 @@
+import copy
 import random
 import unittest
 
 from growlog.log import Log, UnknownCall, answer_at, answers
-
-BEGIN = [0]
-SIZE = [2]
-
-
-def add(entry):
-    return [1, len(entry)] + list(entry)
-
-
-def joined(calls):
-    return [number for call in calls for number in call]
+from reference import BEGIN, SIZE, ListCase, Unchangeable, add, joined, told, true_root
 
 
 def single(numbers):
     """What answers gives back where each call answers one number."""
-    return joined([1, number] for number in numbers)
+    return told([number] for number in numbers)
 
 
-class Unchangeable(list):
-    """A list that fails at any try to change it, even if it is changed back."""
-
-    def refuse(self, *args, **kwargs):
-        raise AssertionError("the list handed in was changed")
-
-    append = clear = extend = insert = pop = remove = reverse = sort = refuse
-    __setitem__ = __delitem__ = __iadd__ = __imul__ = refuse
-
-
-class AnswersCase(unittest.TestCase):
+class AnswersCase(ListCase):
     def check(self, calls, numbers):
-        self.assertEqual(answers(joined(calls)), single(numbers))
+        self.same(answers(joined(calls)), single(numbers))
 
 
 class BeginTest(AnswersCase):
@@ -139,7 +120,7 @@ class InterfaceTest(AnswersCase):
     def test_list_handed_in_is_never_changed(self):
         handed = Unchangeable(self.CALLS)
         answers(handed)
-        self.assertEqual(list(handed), self.CALLS)
+        self.same(list(handed), self.CALLS)
 
     def test_second_time_is_as_the_first(self):
         for calls in ([2], [1, 1, 7], [1, 0, 2], self.CALLS):
@@ -169,19 +150,23 @@ class InterfaceTest(AnswersCase):
             answers([2, 6])
 
 
-class RefusalTest(unittest.TestCase):
+class RefusalTest(ListCase):
     """The refusals of add, which the interface's bounds keep from showing in answers."""
 
-    def full(self):
-        log = Log()
-        for n in range(8192):
-            self.assertEqual(log.add([n % 256]), [n])
-        return log
+    @classmethod
+    def setUpClass(cls):
+        cls.full = Log()
+        cls.told = [cls.full.add([n % 256]) for n in range(8192)]
+
+    def test_8192_entries_are_taken(self):
+        self.same(self.told, [[n] for n in range(8192)])
+        self.assertEqual(self.full.size(), [8192])
 
     def test_longest_entry_is_taken(self):
         log = Log()
         self.assertEqual(log.add([255] * 65536), [0])
         self.assertEqual(log.size(), [1])
+        self.same(log.root(1), [0] + true_root([[255] * 65536]))
 
     def test_longer_entry_is_refused_and_changes_nothing(self):
         for length in (65537, 66000):
@@ -189,61 +174,69 @@ class RefusalTest(unittest.TestCase):
             log.add([5])
             self.assertEqual(log.add([0] * length), [-1])
             self.assertEqual(log.size(), [1])
-            self.assertEqual(log.entries, [[5]])
+            self.same(log.root(1), [0] + true_root([[5]]))
+            self.same(log.root(2), [-2])
             self.assertEqual(log.add([6]), [1])
+            self.same(log.root(2), [0] + true_root([[5], [6]]))
 
     def test_full_log_refuses_and_changes_nothing(self):
-        log = self.full()
-        kept = list(log.entries)
+        log = copy.deepcopy(self.full)
         for entry in ([], [1], [0] * 65536):
             self.assertEqual(log.add(entry), [-2])
             self.assertEqual(log.size(), [8192])
-        self.assertEqual(log.entries, kept)
+            self.same(log.root(8193), [-2])
+        self.same(log.root(8192), [0] + true_root([[n % 256] for n in range(8192)]))
 
     def test_too_long_comes_before_full(self):
-        log = self.full()
+        log = copy.deepcopy(self.full)
         self.assertEqual(log.add([0] * 65537), [-1])
         self.assertEqual(log.size(), [8192])
 
     def test_begin_makes_room_in_a_full_log(self):
-        log = self.full()
+        log = copy.deepcopy(self.full)
         self.assertEqual(log.begin(), [0])
         self.assertEqual(log.size(), [0])
         self.assertEqual(log.add([1]), [0])
 
 
-class EntriesTest(unittest.TestCase):
+class EntriesTest(ListCase):
+    def check(self, log, entries):
+        self.assertEqual(log.size(), [len(entries)])
+        for n in range(len(entries) + 1):
+            self.same(log.root(n), [0] + true_root(entries[:n]))
+
     def test_each_entry_is_the_last_when_added(self):
         log = Log()
+        entries = []
         for entry in ([1, 2], [], [0, 255], [1, 2]):
             log.add(entry)
-            self.assertEqual(log.entries[-1], entry)
-        self.assertEqual(log.entries, [[1, 2], [], [0, 255], [1, 2]])
+            entries.append(entry)
+            self.check(log, entries)
 
     def test_the_entry_of_a_call_is_all_its_bytes_and_no_more(self):
         for entry in ([], [7], [0, 255], [3, 1, 2], [9] * 30900):
             log = Log()
             calls = SIZE + add(entry) + SIZE
             self.assertEqual(answer_at(log, calls, 1), [0])
-            self.assertEqual(log.entries, [entry])
+            self.check(log, [entry])
 
     def test_begin_leaves_none(self):
         log = Log()
         log.add([1])
         log.begin()
-        self.assertEqual(log.entries, [])
+        self.check(log, [])
 
     def test_an_entry_stays_when_the_callers_list_changes(self):
         log = Log()
         entry = [1, 2]
         log.add(entry)
         entry.append(3)
-        self.assertEqual(log.entries, [[1, 2]])
+        self.check(log, [[1, 2]])
 
     def test_two_logs_share_nothing(self):
         first, second = Log(), Log()
         first.add([1])
-        self.assertEqual(second.size(), [0])
+        self.check(second, [])
 
 
 if __name__ == "__main__":
