@@ -1,5 +1,6 @@
 """The log, and a list of calls on a new one."""
 
+from growlog.bounds import MOST_BYTES, TOO_LONG
 from growlog.tree import Tree
 
 BEGIN = 0
@@ -9,10 +10,8 @@ ROOT = 3
 PATH = 4
 GROWN = 5
 
-MOST_BYTES = 65536
 MOST_ENTRIES = 8192
 
-TOO_LONG = -1
 FULL = -2
 NOT_THERE = -2
 
