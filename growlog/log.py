@@ -1,7 +1,7 @@
 """The log, and a list of calls on a new one."""
 
 from growlog.bounds import MOST_BYTES, TOO_LONG
-from growlog.tree import Tree
+from growlog.tree import Tree, entry_stretches, growth_stretches
 
 BEGIN = 0
 ADD = 1
@@ -49,12 +49,12 @@ class Log:
     def path(self, i, n):
         if n > self.how_many() or i >= n:
             return [NOT_THERE]
-        return counted(self.tree.proof_of_entry(i, n))
+        return counted(self.tree.roots(entry_stretches(i, n)))
 
     def grown(self, a, n):
         if n > self.how_many() or a == 0 or a > n:
             return [NOT_THERE]
-        return counted(self.tree.proof_of_growth(a, n))
+        return counted(self.tree.roots(growth_stretches(a, n)))
 
     def how_many(self):
         return len(self.tree.leaves)

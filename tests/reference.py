@@ -6,6 +6,8 @@ import unittest
 BEGIN = [0]
 SIZE = [2]
 GREATEST = 4294967295
+# The greatest i, a and n that holds and grew are handed.
+WIDEST = 18446744073709551615
 
 
 def add(entry):
@@ -75,6 +77,51 @@ def true_grown(a, entries, from_start=True):
     if a <= h:
         return true_grown(a, entries[:h], from_start) + [true_root(entries[h:])]
     return true_grown(a - h, entries[h:], False) + [true_root(entries[:h])]
+
+
+def node(left, right):
+    """The digest over two roots; None, which stands for no root at all, leads to None."""
+    return None if left is None or right is None else sha256([1] + left + right)
+
+
+def reached_from_entry(i, n, entry, digests):
+    """The root that the digests lead to from entry i of n; None where they are too few or too many."""
+    if n == 1:
+        return None if digests else sha256([0] + list(entry))
+    if not digests:
+        return None
+    h = split(n)
+    if i < h:
+        return node(reached_from_entry(i, h, entry, digests[:-1]), digests[-1])
+    return node(digests[-1], reached_from_entry(i - h, n - h, entry, digests[:-1]))
+
+
+def true_holds(i, n, entry, digests, root):
+    if len(entry) > 65536 or len(digests) > 64:
+        return [-1]
+    return [1 if i < n and reached_from_entry(i, n, entry, digests) == root else 0]
+
+
+def entry_of(k, length=None):
+    """The entry of a test log; where no length is told, one from 0 to 10."""
+    return [(37 * k + 11 * place + 5) % 256 for place in range(k % 11 if length is None else length)]
+
+
+def log_of(count):
+    return [entry_of(k) for k in range(count)]
+
+
+def with_one_changed(numbers, place):
+    return numbers[:place] + [numbers[place] ^ 1] + numbers[place + 1:]
+
+
+def rows_of(numbers, start):
+    """The replies in what answers gave back, from the start-th call on."""
+    replies = []
+    while numbers:
+        replies.append(numbers[1:1 + numbers[0]])
+        numbers = numbers[1 + numbers[0]:]
+    return replies[start:]
 
 
 def reply(entries, call):

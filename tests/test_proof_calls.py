@@ -6,8 +6,8 @@ import unittest
 
 from growlog.log import Log, answers
 from reference import (
-    BEGIN, GREATEST, SIZE, ListCase, Unchangeable, add, counted, from_hex, grown, joined, path, root, sha256, told,
-    true_answers, true_grown, true_path, true_root,
+    BEGIN, GREATEST, SIZE, ListCase, Unchangeable, add, counted, entry_of, from_hex, grown, joined, log_of, path, root,
+    sha256, told, true_answers, true_grown, true_path, true_root,
 )
 
 # The eight entries, roots and proofs that RFC 6962's own reference program is tested with.
@@ -37,15 +37,6 @@ ROOT_4_8 = "6b47aaf29ee3c2af9af889bc1fb9254dabd31177f16232dd6aab035ca39bf6e4"
 
 # Around the places where a leaf, a byte longer than its entry, fills a block of 64 or its padding does.
 LENGTHS = [0, 1, 53, 54, 55, 56, 61, 62, 63, 64, 65, 117, 118, 119, 120, 126, 127, 128, 129, 183, 191, 192, 193]
-
-
-def entry_of(k, length=None):
-    """Entries that differ from one another, of lengths from 0 to 10."""
-    return [(37 * k + 11 * place + 5) % 256 for place in range(k % 11 if length is None else length)]
-
-
-def log_of(count):
-    return [entry_of(k) for k in range(count)]
 
 
 class CallsCase(ListCase):
