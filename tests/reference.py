@@ -102,6 +102,28 @@ def true_holds(i, n, entry, digests, root):
     return [1 if i < n and reached_from_entry(i, n, entry, digests) == root else 0]
 
 
+def reached_from_first(a, n, old_root, digests, from_start=True):
+    """The old and the new root that the digests lead to; None where they are too few or too many."""
+    if a == n:
+        if len(digests) != (0 if from_start else 1):
+            return None
+        return (old_root, old_root) if from_start else (digests[0], digests[0])
+    if not digests:
+        return None
+    h = split(n)
+    if a <= h:
+        reached = reached_from_first(a, h, old_root, digests[:-1], from_start)
+        return reached and (reached[0], node(reached[1], digests[-1]))
+    reached = reached_from_first(a - h, n - h, old_root, digests[:-1], False)
+    return reached and (node(digests[-1], reached[0]), node(digests[-1], reached[1]))
+
+
+def true_grew(a, n, old_root, new_root, digests):
+    if len(digests) > 64:
+        return [-1]
+    return [1 if 1 <= a <= n and reached_from_first(a, n, old_root, digests) == (old_root, new_root) else 0]
+
+
 def entry_of(k, length=None):
     """The entry of a test log; where no length is told, one from 0 to 10."""
     return [(37 * k + 11 * place + 5) % 256 for place in range(k % 11 if length is None else length)]
@@ -109,6 +131,14 @@ def entry_of(k, length=None):
 
 def log_of(count):
     return [entry_of(k) for k in range(count)]
+
+
+def digests_in(numbers):
+    return [numbers[k:k + 32] for k in range(0, len(numbers), 32)]
+
+
+def digests_like(count, seed=0):
+    return [sha256([seed, k]) for k in range(count)]
 
 
 def with_one_changed(numbers, place):

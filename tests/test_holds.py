@@ -6,8 +6,8 @@ import unittest
 from growlog.log import answers
 from growlog.proofs import holds
 from reference import (
-    ListCase, Unchangeable, WIDEST, add, entry_of, joined, path, reached_from_entry, root, rows_of, sha256,
-    true_holds, true_root, with_one_changed,
+    ListCase, Unchangeable, WIDEST, add, digests_in, digests_like, entry_of, joined, path, reached_from_entry, root,
+    rows_of, sha256, true_holds, true_root, with_one_changed,
 )
 
 
@@ -22,14 +22,6 @@ def given_proofs(entries):
     calls = [add(entry) for entry in entries] + [root(count)] + [path(i, count) for i in range(count)]
     replies = rows_of(answers(joined(calls)), count)
     return replies[0][1:], [digests_in(reply[1:]) for reply in replies[1:]]
-
-
-def digests_in(numbers):
-    return [numbers[k:k + 32] for k in range(0, len(numbers), 32)]
-
-
-def digests_like(count, seed=0):
-    return [sha256([seed, k]) for k in range(count)]
 
 
 class HoldsCase(ListCase):
