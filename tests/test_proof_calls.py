@@ -10,7 +10,7 @@ from reference import (
     sha256, told, true_answers, true_grown, true_path, true_root,
 )
 
-# The eight entries, roots and proofs that RFC 6962's own reference program is tested with.
+# Eight entries that trees of RFC 6962 are often tested with; their digests were written down, not worked out here.
 KNOWN_ENTRIES = [from_hex(text) for text in (
     "", "00", "10", "2021", "3031", "40414243", "5051525354555657", "606162636465666768696a6b6c6d6e6f",
 )]
